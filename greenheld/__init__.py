@@ -1,0 +1,1 @@
+"""Greenheld: signals of a whole town, held for all rows of cars."""
