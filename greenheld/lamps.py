@@ -47,7 +47,7 @@ def first_early(crossing, last, tick, begun):
     """The least (i, j) such that j, of those begun in this tick, did not wait for i; None if there is none."""
     for i in sorted(last):
         for j in begun:
-            if do_cross(crossing, i, j) and tick - last[i] - 1 < clearance(crossing, i, j):
+            if tick - last[i] - 1 < clearance(crossing, i, j):
                 return (i, j)
     return None
 

@@ -38,7 +38,7 @@ def is_stage(crossing, value):
 
 def clearing_of(crossing, stage):
     """How many ticks without green make way for any movement, behind this stage."""
-    return max([clearance(crossing, i, j) for i in stage for j in range(len(crossing[0]))], default=0)
+    return max([clearance(crossing, i, j) for i in stage for j in range(len(crossing[0]))])
 
 
 def clearings(crossing):
@@ -62,7 +62,7 @@ def first_uncovered(crossing, members, cover):
 def least_cover(crossing):
     """The least cover among those with the fewest stages."""
     members = stages(crossing)
-    for many in range(1, len(members) + 1):
+    for many in range(1, len(members)):
         for cover in combinations(range(len(members)), many):
             if first_uncovered(crossing, members, cover) is None:
                 return cover
@@ -76,11 +76,11 @@ def is_hand(crossing, some):
 
 def greatest_hand(crossing):
     """The least hand among those with the most movements."""
-    for many in range(len(crossing[0]), 0, -1):
+    for many in range(len(crossing[0]), 1, -1):
         for hand in combinations(range(len(crossing[0])), many):
             if is_hand(crossing, hand):
                 return hand
-    return ()
+    return (0,)
 
 
 def shares_of_cover(crossing):

@@ -167,7 +167,7 @@ def shortened(line):
         shared = gcd(shared, number)
         if shared == 1:
             return line
-    return line if shared == 0 else [number // shared for number in line]
+    return [number // shared for number in line]
 
 
 def line_of(numbers, right, slots, k):
@@ -229,11 +229,6 @@ def first_stop(lines, marks, k, place):
     return first
 
 
-def comes_to_nought(line, stop, place):
-    """Whether a right side below 0 comes up to 0, as the place rises, no later than line stop stops it."""
-    return line[-1] * stop[place] >= stop[-1] * line[place]
-
-
 def marks_of(basis, k):
     """Where lines ahead of k are compared: at right sides, and then so that no basis can come again."""
     return [-1] + basis[:k]
@@ -248,9 +243,7 @@ def keep_all(lines, basis):
             if place is None:
                 return k
             stop = first_stop(lines, marks, k, place)
-            if stop is None or comes_to_nought(lines[k], lines[stop], place):
-                stop = k
-            exchange(lines, basis, stop, place)
+            exchange(lines, basis, k if stop is None else stop, place)
     return None
 
 

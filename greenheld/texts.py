@@ -50,7 +50,7 @@ class Reader:
         """Raises BadText unless one of the words stands next."""
         if not any([self.sees(word) for word in words]):
             rest = self.text[self.at:]
-            raise BadText(self.at + max([shared_beginning(rest, word) for word in words], default=0))
+            raise BadText(self.at + max([shared_beginning(rest, word) for word in words]))
 
     def word(self, word):
         """Reads this word."""

@@ -7,9 +7,9 @@ from math import lcm
 
 from greenheld.leading import (best_plan, judge_best, leading_capacities, leading_plans, mixed_capacity, plan_for,
                                round_counts, spread_round, worth_of)
-from greenheld.plans import capacity_of, is_above, is_plan
+from greenheld.plans import capacity_of, is_above, is_plan, need_of
 from tests.support import EAST, ODD_VALUES, plain_int, same, within
-from tests.trying import choice_of, nowhere_less, small_crossings
+from tests.trying import all_plans, choice_of, nowhere_less, small_crossings
 
 SMALL = small_crossings()
 
@@ -102,6 +102,15 @@ class Leading(unittest.TestCase):
         self.assertIn(((0, 4), (3, 4)), plans)
         self.assertNotIn(((1, 4), (2, 4)), plans)
         self.assertEqual(plan_for(crossing, (1, 1, 1, 1)), ((0, 2), (3, 2)))
+
+    def test_the_fewest_pairs_of_equal_need(self):
+        crossing = (tuple((q, None) for q in range(4)), ((0, 1, 0, 0), (2, 3, 0, 0)), 7)
+        wanted = (3, 1, 2, 2)
+        more = ((0, 2), (1, 3), (2, 2))
+        self.assertEqual([need_of(crossing, more), nowhere_less(capacity_of(crossing, more), wanted)], [7, True])
+        self.assertEqual(plan_for(crossing, wanted), ((0, 4), (3, 3)))
+        enough = [entry for entry in all_plans(crossing) if nowhere_less(entry[2], wanted)]
+        self.assertEqual(choice_of(enough), ((0, 4), (3, 3)))
 
     def test_many(self):
         moves = tuple((q, None) for q in range(6))

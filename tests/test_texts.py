@@ -111,6 +111,10 @@ class Reading(unittest.TestCase):
         self.assertEqual(read_town(text + "\ncrossing 5\nmove 0 to 1"),
                          (3, (((), ((0, 1, 2, 3),), 12), (((0, 1),), (), 5))))
         self.assertEqual(place_told(read_crossing, "crossing 5\ncrossing 6"), 16)
+        text = "crossing 5\nmove 0 to 1\ncross 0 1 clear 2 3"
+        self.assertEqual(read_crossing(text), (((0, 1),), ((0, 1, 2, 3),), 5))
+        for more, signs in (("\nmove 0 to 1", 1), ("\nmov", 1), ("\nc", 2), ("\ncrossing 5", 6), ("\n", 1), (" ", 0)):
+            self.assertEqual(place_told(read_crossing, text + more), len(text) + signs, more)
 
     def test_no_text(self):
         for read in LANGUAGES:

@@ -100,6 +100,11 @@ class Towns(unittest.TestCase):
                         ((0, True, 0, 0),), ((0, 1, True, 0),), ((0, 1, 0, False),), ((0, 1, None, 0),), None, ((),)):
             self.judged((4, ((moves, crossed, 12),)), ("crossing", 0))
 
+    def test_more_movements_than_the_greatest_clearance(self):
+        moves = tuple((q, to) for q in range(7) for to in range(7) if to != q)
+        self.judged((7, ((moves, ((0, 41, 30, 30), (40, 41, 0, 0)), 12),)), None)
+        self.judged((7, ((moves, ((0, 42, 30, 30),), 12),)), ("crossing", 0))
+
     def test_lengths(self):
         for length in (1, 2, 119, 120):
             self.judged((1, ((((0, None),), (), length),)), None)
