@@ -26,3 +26,8 @@ def is_lot(value, many):
     if not isinstance(value, tuple):
         return False
     return all([is_between(member, 0, many - 1) for member in value]) and ascends(value)
+
+
+def is_cars(value, many):
+    """Whether it is a tuple of so many integers from 0 on."""
+    return is_tuple_of(value, many) and all([is_whole(part) and part >= 0 for part in value])

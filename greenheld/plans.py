@@ -4,10 +4,14 @@ from greenheld.forms import is_tuple_of, is_whole
 from greenheld.stages import clearings, stages
 
 
+def need_by(cleared, plan):
+    """How many ticks the plan takes, told the clearings of all stages."""
+    return sum([ticks + cleared[s] for s, ticks in plan])
+
+
 def need_of(crossing, plan):
     """How many ticks the plan takes, all clearings too."""
-    cleared = clearings(crossing)
-    return sum([ticks + cleared[s] for s, ticks in plan])
+    return need_by(clearings(crossing), plan)
 
 
 def is_part(value, many):
@@ -17,16 +21,20 @@ def is_part(value, many):
     return 0 <= value[0] < many and value[1] >= 1
 
 
-def judge_plan(crossing, value):
-    """None if it is a plan that fits, else the first fault."""
-    many = len(stages(crossing))
-    if not isinstance(value, tuple) or not all([is_part(part, many) for part in value]):
+def judge_by(cleared, length, value):
+    """What judge_plan tells of it, told the clearings of all stages, and the length."""
+    if not isinstance(value, tuple) or not all([is_part(part, len(cleared)) for part in value]):
         return ("form",)
     for k in range(1, len(value)):
         if value[k][0] == value[k - 1][0]:
             return ("twice", k)
-    need = need_of(crossing, value)
-    return ("long", need) if need > crossing[2] else None
+    need = need_by(cleared, value)
+    return ("long", need) if need > length else None
+
+
+def judge_plan(crossing, value):
+    """None if it is a plan that fits, else the first fault."""
+    return judge_by(clearings(crossing), crossing[2], value)
 
 
 def is_plan(crossing, value):
@@ -34,11 +42,14 @@ def is_plan(crossing, value):
     return judge_plan(crossing, value) is None
 
 
+def capacity_by(members, many, plan):
+    """How many cars each of so many movements lets in the frame, told the members of all stages."""
+    return tuple([sum([ticks - 1 for s, ticks in plan if i in members[s]]) for i in range(many)])
+
+
 def capacity_of(crossing, plan):
     """How many cars each movement lets in the frame."""
-    members = stages(crossing)
-    return tuple([sum([ticks - 1 for s, ticks in plan if i in members[s]])
-                  for i in range(len(crossing[0]))])
+    return capacity_by(stages(crossing), len(crossing[0]), plan)
 
 
 def is_above(one, other):

@@ -25,6 +25,11 @@ def lessened(x, y):
     return fraction(x[0] * y[1] - y[0] * x[1], x[1] * y[1])
 
 
+def negative(x):
+    """0 less x."""
+    return (-x[0], x[1])
+
+
 def multiplied(x, y):
     """x times y."""
     return fraction(x[0] * y[0], x[1] * y[1])
@@ -185,7 +190,7 @@ def lines_of(rows, rights, worth):
     """The lines of the system and of the worth."""
     slots = len(rows) + 1
     lines = [line_of(row, rights[k], slots, k) for k, row in enumerate(rows)]
-    return lines + [line_of([lessened(NOUGHT, part) for part in worth], NOUGHT, slots, slots - 1)]
+    return lines + [line_of([negative(part) for part in worth], NOUGHT, slots, slots - 1)]
 
 
 def cleared(line, by, place):

@@ -3,7 +3,7 @@
 from math import gcd
 
 from greenheld.errors import BadText
-from greenheld.forms import is_tuple_of, is_whole
+from greenheld.forms import is_cars
 
 DIGITS = "0123456789"
 MOST_DIGITS = 9
@@ -173,7 +173,7 @@ def read_counts(text):
 
 def is_counts(town, value):
     """Whether it is counts of this town."""
-    return is_tuple_of(value, town[0]) and all([is_whole(many) and many >= 0 for many in value])
+    return is_cars(value, town[0])
 
 
 def scaled_counts(counts, k):
