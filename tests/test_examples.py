@@ -1,5 +1,7 @@
 """The examples of the document's interface, with the answers as they stand there."""
 
+import doctest
+import os
 import unittest
 
 from greenheld.errors import BadText
@@ -139,6 +141,13 @@ class StageFour(unittest.TestCase):
                                      ("most", (5, 1), ((2, 1), (1, 1)), ((2, 1), (0, 1)))),
                           judge_most(2, rows, rights, ((2, 1), (1, 1)), None)],
                          [('rates',), ('form',)])
+
+
+class StagesFourToTen(unittest.TestCase):
+    def test_as_they_stand_there(self):
+        path = os.path.join(os.path.dirname(os.path.abspath(__file__)), "examples.txt")
+        failed, tried = doctest.testfile(path, module_relative=False)
+        self.assertEqual([failed, tried], [0, 74])
 
 
 if __name__ == "__main__":

@@ -7,12 +7,20 @@ import os
 import unittest
 
 import greenheld
+from greenheld.comings import eased, fullest, judge_comings, looks
+from greenheld.flows import judge_carried
+from greenheld.frames import is_choice, is_state, judge_run, left_town, most_waiting, run, still_choice
+from greenheld.interlock import is_wish, lamp_heard, new_interlock, wish_heard
 from greenheld.lamps import judge_lamps, lamp_rows
 from greenheld.leading import judge_best
+from greenheld.looking import judge_looked, judge_looked_run, looked_run
 from greenheld.plans import is_plan, judge_plan
+from greenheld.slack import judge_slack, judge_steepest
 from greenheld.stages import is_stage, judge_cover
 from greenheld.sums import is_fraction, judge_barred, judge_kept, judge_most
+from greenheld.tales import judge_tale, tale_of
 from greenheld.texts import is_counts
+from greenheld.timetables import is_timetable, judge_timetable, least_bound
 from greenheld.towns import is_town, judge_town, judge_way_out
 from tests.support import EAST, ODD_VALUES, TOWN, same
 
@@ -34,15 +42,52 @@ FUNCTIONS = {
     "sums": "fraction(u,e) added(x,y) lessened(x,y) multiplied(x,y) divided(x,y) compared(x,y) summed(some) "
             "is_fraction(value) kept_or_barred(n,rows,rights) judge_kept(n,rows,rights,value) "
             "judge_barred(n,rows,rights,value) most_of(n,rows,rights,worth) judge_most(n,rows,rights,worth,value)",
+    "flows": "pull(town,prices,c) gain(town,counts,prices) carried(town,counts) judge_carried(town,counts,value)",
+    "slack": "slack_of(town,counts) judge_slack(town,counts,value) room_at(town,counts,q) rooms(town,counts) "
+             "tight_queues(town,counts) factor_of(town,counts) first_lost(town,some) mixed_counts(some,shares) "
+             "greatest_of(some) steepest(town,counts) judge_steepest(town,counts,value)",
+    "timetables": "table_choice(table,t) round_lets(town,table) is_timetable(town,value) timetable(town,shares,flows) "
+                  "judge_timetable(town,counts,value) turned_table(table,k) round_bound(town,counts,table,state) "
+                  "table_bound(town,counts,table,state) rounds_till(town,counts,table,state) "
+                  "longest_wait(town,counts,table,state) spread(town,table) least_bound(town,counts,tables)",
+    "frames": "is_state(town,value) is_choice(town,value) led(town,state,choice) frame(town,state,comings,choice) "
+              "run(town,state,rows,choices) left_town(town,state,rows,choices) priced(prices,state) "
+              "step_of(prices,movement) paid(town,prices,led_cars) grown(town,counts,prices,frames) still_choice(town) "
+              "full_choice(town,numbers) judge_run(town,state,rows,choices,value) above(one,other) most_waiting(states)",
+    "looking": "look_falls(town,state) pressures(town,state) looked(town,state) judge_looked(town,state,value) "
+               "squares_of(state) cars_in(state) most_out(town) most_in(town) fall_constant(town,counts) "
+               "allowed_squares(town,counts,e,state) steady(town,counts,e) frames_till(town,counts,e,state) "
+               "queue_bound(town,counts,e) looked_run(town,state,rows) "
+               "judge_looked_run(town,counts,e,state,rows,value) scaled(state,m) same_look(town,one,other) "
+               "calmest(town,state)",
+    "comings": "excess(counts,rows) judge_comings(town,counts,spare,value) fullest(counts,spare,frames) "
+               "eased(counts,rows) next_look(look,before,behind,wrong) seen_empty(look,state) "
+               "looks(town,state,rows,choices,wrongs) error_of(look,state) choice_worth(town,state,choice) "
+               "best_worth(town,state) look_loss(town,e)",
+    "interlock": "foes_of(crossing,i) widest_clearance(crossing) new_interlock(crossing) is_wish(crossing,value) "
+                 "wish_heard(crossing,interlock,value) lamp_heard(crossing,interlock,value) "
+                 "next_shown(crossing,interlock) may_begin_at(crossing,interlock,i)",
+    "tales": "judge_tale(crossing,tale) cars_let(crossing,tale) tale_of(crossing,happenings) wishes_for(tale,first)",
 }
 SYSTEM = (2, (((1, 1), (1, 1)), ((1, 1), (0, 1))), ((3, 1), (2, 1)))
 WORTH = ((2, 1), (1, 1))
+COUNTS = (1, 0, 2, 0)
 LOOKING = (
     judge_town, is_town, is_fraction, lambda value: judge_way_out(TOWN, 0, value), lambda value: is_stage(EAST, value),
     lambda value: judge_cover(EAST, value), lambda value: is_counts(TOWN, value), lambda value: judge_plan(EAST, value),
     lambda value: is_plan(EAST, value), lambda value: judge_best(EAST, ((1, 1),) * 3, value),
     lambda value: judge_kept(*SYSTEM, value), lambda value: judge_barred(*SYSTEM, value),
-    lambda value: judge_most(*SYSTEM, WORTH, value),
+    lambda value: judge_most(*SYSTEM, WORTH, value), lambda value: judge_carried(TOWN, COUNTS, value),
+    lambda value: judge_slack(TOWN, COUNTS, value), lambda value: judge_steepest(TOWN, (30,) * 4, value),
+    lambda value: is_timetable(TOWN, value), lambda value: judge_timetable(TOWN, COUNTS, value),
+    lambda value: is_state(TOWN, value), lambda value: is_choice(TOWN, value),
+    lambda value: judge_run(TOWN, COUNTS, [COUNTS], [still_choice(TOWN)], value),
+    lambda value: judge_looked(TOWN, COUNTS, value),
+    lambda value: judge_looked_run(TOWN, COUNTS, (1, 1), COUNTS, [COUNTS], value),
+    lambda value: judge_comings(TOWN, COUNTS, 0, value), lambda value: is_wish(EAST, value),
+    lambda value: wish_heard(EAST, new_interlock(EAST), value),
+    lambda value: lamp_heard(EAST, new_interlock(EAST), value), lambda value: judge_tale(EAST, value),
+    lambda value: tale_of(EAST, [("wish", value), ("tick",), ("lamp", value), ("tick",)]),
 )
 
 
@@ -76,6 +121,19 @@ class Interface(unittest.TestCase):
         before = list(rows)
         self.assertIsNone(judge_lamps(EAST, rows))
         self.assertEqual([rows, plans], [before, [((0, 4), (1, 3)), ()]])
+
+    def test_lists_stay_and_may_be_tuples(self):
+        still, rows = still_choice(TOWN), [COUNTS, (0, 9, 0, 9)]
+        choices, wrongs, tables = [still, still], [(1, 0, -1, 0), (0, 0, 0, 0)], [(still,), (still, still)]
+        happenings = [("wish", (1, (0,), 3)), ("tick",), ("lamp", ["red"]), ("tick",)]
+        for call, told in ((run, (TOWN, COUNTS, rows, choices)), (left_town, (TOWN, COUNTS, rows, choices)),
+                           (looks, (TOWN, COUNTS, rows, choices, wrongs)), (looked_run, (TOWN, COUNTS, rows)),
+                           (most_waiting, (rows,)), (least_bound, (TOWN, (0,) * 4, tables)), (tale_of, (EAST, happenings))):
+            before = copy.deepcopy(told)
+            answer = call(*told)
+            self.assertTrue(same(told, before))
+            self.assertTrue(same(call(*[tuple(part) if isinstance(part, list) else part for part in told]), answer))
+        self.assertEqual([type(eased((1,), ())), type(fullest((1,), 2, 3))], [tuple, tuple])
 
 
 if __name__ == "__main__":
