@@ -7,10 +7,12 @@ import os
 import unittest
 
 import greenheld
+from greenheld.changes import judge_apart
 from greenheld.comings import eased, fullest, judge_comings, looks
 from greenheld.flows import judge_carried
 from greenheld.frames import is_choice, is_state, judge_run, left_town, most_waiting, run, still_choice
 from greenheld.interlock import is_wish, lamp_heard, new_interlock, wish_heard
+from greenheld.joining import ride, tie_rows
 from greenheld.lamps import judge_lamps, lamp_rows
 from greenheld.leading import judge_best
 from greenheld.looking import judge_looked, judge_looked_run, looked_run
@@ -22,6 +24,7 @@ from greenheld.tales import judge_tale, tale_of
 from greenheld.texts import is_counts
 from greenheld.timetables import is_timetable, judge_timetable, least_bound
 from greenheld.towns import is_town, judge_town, judge_way_out
+from greenheld.waves import judge_ring
 from tests.support import EAST, ODD_VALUES, TOWN, same
 
 FUNCTIONS = {
@@ -68,6 +71,17 @@ FUNCTIONS = {
                  "wish_heard(crossing,interlock,value) lamp_heard(crossing,interlock,value) "
                  "next_shown(crossing,interlock) may_begin_at(crossing,interlock,i)",
     "tales": "judge_tale(crossing,tale) cars_let(crossing,tale) tale_of(crossing,happenings) wishes_for(tale,first)",
+    "waves": "wish_of(one,begin,other,late,time) kept(wishes,L,offsets) offsets_for(m,wishes,L) "
+             "judge_ring(m,wishes,L,value) turned_offsets(offsets,L,ticks) best_offsets(m,wishes,weights,L) "
+             "least_dropped(m,wishes,L)",
+    "bands": "arrivals(line,start) passes(line,greens,L,offsets,start) band(line,greens,L,offsets) band_bound(greens) "
+             "offsets_of_line(m,line,greens,L) back_line(line) both_bands(line,greens,backs,L,offsets) "
+             "best_both(m,line,greens,backs,L) full_both(line,greens,backs,L) full_paper(line,greens,backs,L)",
+    "changes": "kept_numbers(town,gone) closed_town(town,gone) is_served(town,gone) breaking(town) ways_apart(town,q) "
+               "least_breaking(town) judge_apart(town,q,value)",
+    "joining": "way_choice(town,choice,x,i) ride(town,state,ahead,way,rows,choices) ride_bound(town,state,way,ahead) "
+               "side_by_side(one,other) tied(one,other,ties) apart(one,other,state) "
+               "tie_rows(one,other,ties,state,rows,choices)",
 }
 SYSTEM = (2, (((1, 1), (1, 1)), ((1, 1), (0, 1))), ((3, 1), (2, 1)))
 WORTH = ((2, 1), (1, 1))
@@ -88,6 +102,7 @@ LOOKING = (
     lambda value: wish_heard(EAST, new_interlock(EAST), value),
     lambda value: lamp_heard(EAST, new_interlock(EAST), value), lambda value: judge_tale(EAST, value),
     lambda value: tale_of(EAST, [("wish", value), ("tick",), ("lamp", value), ("tick",)]),
+    lambda value: judge_ring(2, ((0, 1, 3), (1, 0, 4)), 10, value), lambda value: judge_apart(TOWN, 0, value),
 )
 
 
@@ -125,10 +140,13 @@ class Interface(unittest.TestCase):
     def test_lists_stay_and_may_be_tuples(self):
         still, rows = still_choice(TOWN), [COUNTS, (0, 9, 0, 9)]
         choices, wrongs, tables = [still, still], [(1, 0, -1, 0), (0, 0, 0, 0)], [(still,), (still, still)]
+        one = (1, ((((0, None),), (), 4),))
         happenings = [("wish", (1, (0,), 3)), ("tick",), ("lamp", ["red"]), ("tick",)]
         for call, told in ((run, (TOWN, COUNTS, rows, choices)), (left_town, (TOWN, COUNTS, rows, choices)),
                            (looks, (TOWN, COUNTS, rows, choices, wrongs)), (looked_run, (TOWN, COUNTS, rows)),
-                           (most_waiting, (rows,)), (least_bound, (TOWN, (0,) * 4, tables)), (tale_of, (EAST, happenings))):
+                           (most_waiting, (rows,)), (least_bound, (TOWN, (0,) * 4, tables)), (tale_of, (EAST, happenings)),
+                           (ride, (TOWN, (1, 2, 0, 0), 1, ((0, 2), (1, 0)), rows, choices)),
+                           (tie_rows, (one, one, (((0, 0), 0),), (1, 2), [(1, 1)], [(((), (0,)),) * 2]))):
             before = copy.deepcopy(told)
             answer = call(*told)
             self.assertTrue(same(told, before))

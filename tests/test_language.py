@@ -82,9 +82,48 @@ class Files(unittest.TestCase):
                 self.assertIsInstance(node, STATEMENTS)
                 if isinstance(node, ast.Assign):
                     self.assertIsInstance(node.targets[0], ast.Name)
-                    ast.literal_eval(node.value)
+                    self.assert_plain(tree, node)
             names = defined(tree) + sorted(imported(tree))
             self.assertEqual(len(names), len(set(names)))
+
+    def assert_plain(self, tree, node):
+        """A plain value, or a dict of texts and of functions defined above it."""
+        if not isinstance(node.value, ast.Dict) or not all(isinstance(part, ast.Name) for part in node.value.values):
+            ast.literal_eval(node.value)
+            return
+        functions = [part.name for part in tree.body if isinstance(part, ast.FunctionDef) and part.lineno < node.lineno]
+        for key, part in zip(node.value.keys, node.value.values):
+            self.assertIsInstance(ast.literal_eval(key), str)
+            self.assertIn(part.id, functions)
+
+    def test_classes(self):
+        for tree in TREES.values():
+            for node in [part for part in ast.walk(tree) if isinstance(part, ast.ClassDef)]:
+                self.assertIn(node, tree.body)
+                self.assertEqual(node.decorator_list, [])
+                methods = [part.name for part in node.body[1:]]
+                self.assertTrue(all(isinstance(part, ast.FunctionDef) for part in node.body[1:]))
+                self.assertEqual(len(methods), len(set(methods)))
+                self.assertEqual([name for name in methods if name.startswith("__") and name != "__init__"], [])
+                own = {part.attr for part in ast.walk(node) if isinstance(part, ast.Attribute) and isinstance(part.ctx, ast.Store)}
+                self.assertFalse(own & set(methods))
+
+    def test_patterns_and_stars(self):
+        for tree in TREES.values():
+            for node in ast.walk(tree):
+                # Only sequences of texts and names, each name once, none of them a parameter's.
+                if isinstance(node, ast.FunctionDef):
+                    parameters = {part.arg for part in node.args.args}
+                    captured = [part.name for part in ast.walk(node) if isinstance(part, ast.MatchAs) and part.name]
+                    self.assertFalse(parameters & set(captured))
+                self.assertNotIsInstance(node, (ast.MatchOr, ast.MatchStar, ast.MatchClass, ast.MatchMapping, ast.MatchSingleton))
+                if isinstance(node, ast.Call):
+                    self.assertTrue(all(isinstance(part.value, (ast.Name, ast.Attribute)) for part in node.args
+                                        if isinstance(part, ast.Starred)))
+                    # What is iterated on the spot is not passed on.
+                    if isinstance(node.func, ast.Name) and node.func.id not in BUILTINS | set().union(*LIBRARY.values()):
+                        self.assertFalse([part for part in node.args if isinstance(part, ast.Call) and isinstance(part.func, ast.Name)
+                                          and part.func.id in ("range", "zip", "enumerate", "reversed", "map")])
 
     def test_imports(self):
         for tree in TREES.values():
