@@ -6,6 +6,11 @@ def is_whole(value):
     return isinstance(value, int) and not isinstance(value, bool)
 
 
+def is_from_nought(value):
+    """Whether it is an integer from 0 on."""
+    return is_whole(value) and value >= 0
+
+
 def is_between(value, least, most):
     """Whether it is an integer from least to most."""
     return is_whole(value) and least <= value <= most
@@ -30,4 +35,4 @@ def is_lot(value, many):
 
 def is_cars(value, many):
     """Whether it is a tuple of so many integers from 0 on."""
-    return is_tuple_of(value, many) and all([is_whole(part) and part >= 0 for part in value])
+    return is_tuple_of(value, many) and all([is_from_nought(part) for part in value])

@@ -13,9 +13,14 @@ def is_state(town, value):
     return is_cars(value, town[0])
 
 
+def kit_of(crossing):
+    """What pairs of a crossing are looked at with: itself, the members and the clearings of its stages."""
+    return (crossing, stages(crossing), clearings(crossing))
+
+
 def kits_of(town):
-    """For each crossing what its pairs are looked at with: itself, the members and the clearings of its stages."""
-    return [(crossing, stages(crossing), clearings(crossing)) for crossing in town[1]]
+    """The kit of each crossing."""
+    return [kit_of(crossing) for crossing in town[1]]
 
 
 def is_pair(kit, value):

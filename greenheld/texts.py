@@ -52,10 +52,16 @@ class Reader:
             rest = self.text[self.at:]
             raise BadText(self.at + max([shared_beginning(rest, word) for word in words]))
 
+    def one_of(self, words):
+        """Reads the one of these words that stands next, and returns it."""
+        self.expect(words)
+        found = [word for word in words if self.sees(word)]
+        self.at += len(found[0])
+        return found[0]
+
     def word(self, word):
         """Reads this word."""
-        self.expect((word,))
-        self.at += len(word)
+        self.one_of((word,))
 
     def end(self):
         """Raises BadText unless all of the text is read."""
@@ -76,6 +82,12 @@ class Reader:
         while self.sees_digit() and self.at - begin < digits:
             self.at += 1
         return int(self.text[begin:self.at])
+
+    def signed(self, digits):
+        """Reads an integer of at most so many digits, with a sign ahead of it if it is below 0."""
+        if self.takes("-"):
+            return -self.number(1, digits)
+        return self.number(0, digits)
 
 
 def move_text(move):
@@ -194,10 +206,7 @@ def fraction_text(f):
 def read_fraction(text):
     """The fraction that is written so."""
     reader = Reader(text)
-    if reader.takes("-"):
-        u = -reader.number(1, MOST_FRACTION_DIGITS)
-    else:
-        u = reader.number(0, MOST_FRACTION_DIGITS)
+    u = reader.signed(MOST_FRACTION_DIGITS)
     if reader.is_done():
         return (u, 1)
     reader.word("/")

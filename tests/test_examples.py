@@ -9,6 +9,7 @@ from greenheld.lamps import greens, judge_lamps, lamp_rows, lamps_at
 from greenheld.leading import (best_plan, judge_best, leading_capacities, leading_plans, mixed_capacity, plan_for,
                                round_counts, spread_round, worth_of)
 from greenheld.plans import capacity_of, is_above, is_plan, judge_plan, need_of
+from greenheld.scripts import read_event
 from greenheld.stages import (clear_ticks, greatest_hand, is_stage, judge_cover, least_cover, shares_of_cover,
                               stages)
 from greenheld.sums import (added, compared, divided, fraction, is_fraction, judge_barred, judge_kept, judge_most,
@@ -147,7 +148,12 @@ class StagesFromFour(unittest.TestCase):
     def test_as_they_stand_there(self):
         path = os.path.join(os.path.dirname(os.path.abspath(__file__)), "examples.txt")
         failed, tried = doctest.testfile(path, module_relative=False)
-        self.assertEqual([failed, tried], [0, 101])
+        self.assertEqual([failed, tried], [0, 123])
+
+    def test_a_text_refused(self):
+        with self.assertRaises(BadText) as caught:
+            read_event("lamp 0 red 1 off")
+        self.assertEqual(caught.exception.place, 14)
 
 
 if __name__ == "__main__":

@@ -9,6 +9,7 @@ import unittest
 import greenheld
 from greenheld.changes import judge_apart
 from greenheld.comings import eased, fullest, judge_comings, looks
+from greenheld.desk import Desk
 from greenheld.flows import judge_carried
 from greenheld.frames import is_choice, is_state, judge_run, left_town, most_waiting, run, still_choice
 from greenheld.interlock import is_wish, lamp_heard, new_interlock, wish_heard
@@ -25,6 +26,7 @@ from greenheld.texts import is_counts
 from greenheld.timetables import is_timetable, judge_timetable, least_bound
 from greenheld.towns import is_town, judge_town, judge_way_out
 from greenheld.waves import judge_ring
+from greenheld.world import after, is_event, judge_world, new_world, played
 from tests.support import EAST, ODD_VALUES, TOWN, same
 
 FUNCTIONS = {
@@ -82,10 +84,21 @@ FUNCTIONS = {
     "joining": "way_choice(town,choice,x,i) ride(town,state,ahead,way,rows,choices) ride_bound(town,state,way,ahead) "
                "side_by_side(one,other) tied(one,other,ties) apart(one,other,state) "
                "tie_rows(one,other,ties,state,rows,choices)",
+    "world": "new_world(town,state) orders_now(world) is_event(world,value) after(world,event) played(world,script) "
+             "cars_there(world) shown_greens(world,x,tick) waited(world) judge_world(world) "
+             "run_on(world,comings,frames) fullest_queue(world) settled_for(world,counts,e)",
+    "scripts": "event_text(event) read_event(text) script_text(script) read_script(text)",
+}
+CLASSES = {
+    ("house", "House"): "__init__(self,town,state) world(self) deeds(self) do(self,deed) undo(self) redo(self) twin(self) "
+                        "state(self) look(self) stand(self) modes(self) shown(self) orders(self) safe(self) "
+                        "holds(self,counts)",
+    ("desk", "Desk"): "__init__(self,town,state) house(self) say(self,line)",
 }
 SYSTEM = (2, (((1, 1), (1, 1)), ((1, 1), (0, 1))), ((3, 1), (2, 1)))
 WORTH = ((2, 1), (1, 1))
 COUNTS = (1, 0, 2, 0)
+WORLD = new_world(TOWN, COUNTS)
 LOOKING = (
     judge_town, is_town, is_fraction, lambda value: judge_way_out(TOWN, 0, value), lambda value: is_stage(EAST, value),
     lambda value: judge_cover(EAST, value), lambda value: is_counts(TOWN, value), lambda value: judge_plan(EAST, value),
@@ -102,19 +115,34 @@ LOOKING = (
     lambda value: wish_heard(EAST, new_interlock(EAST), value),
     lambda value: lamp_heard(EAST, new_interlock(EAST), value), lambda value: judge_tale(EAST, value),
     lambda value: tale_of(EAST, [("wish", value), ("tick",), ("lamp", value), ("tick",)]),
+    lambda value: is_event(WORLD, value), lambda value: Desk(TOWN, COUNTS).say(value),
+    lambda value: after(WORLD, ("lamp", 0, value)), lambda value: judge_world({**WORLD, "tales": (value, ())}),
     lambda value: judge_ring(2, ((0, 1, 3), (1, 0, 4)), 10, value), lambda value: judge_apart(TOWN, 0, value),
 )
+
+
+def tree_of(name):
+    """What a file of the package is made of."""
+    path = os.path.join(os.path.dirname(greenheld.__file__), name + ".py")
+    with open(path, encoding="utf-8") as file:
+        return ast.parse(file.read())
+
+
+def defined_in(body):
+    """The functions that stand there, with their arguments."""
+    return {f"{node.name}({','.join(arg.arg for arg in node.args.args)})" for node in body if isinstance(node, ast.FunctionDef)}
 
 
 class Interface(unittest.TestCase):
     def test_each_function_stands_in_its_file(self):
         for name, functions in FUNCTIONS.items():
-            path = os.path.join(os.path.dirname(greenheld.__file__), name + ".py")
-            with open(path, encoding="utf-8") as file:
-                tree = ast.parse(file.read())
-            told = {f"{node.name}({','.join(arg.arg for arg in node.args.args)})"
-                    for node in tree.body if isinstance(node, ast.FunctionDef)}
-            self.assertLessEqual(set(functions.split()), told)
+            self.assertLessEqual(set(functions.split()), defined_in(tree_of(name).body))
+
+    def test_each_method_stands_in_its_class(self):
+        for (name, word), methods in CLASSES.items():
+            bodies = [node.body for node in tree_of(name).body if isinstance(node, ast.ClassDef) and node.name == word]
+            self.assertEqual(len(bodies), 1)
+            self.assertEqual(set(methods.split()), defined_in(bodies[0]))
 
     def test_arguments_stay_and_answers_are_equal(self):
         for look in LOOKING:
@@ -145,6 +173,7 @@ class Interface(unittest.TestCase):
         for call, told in ((run, (TOWN, COUNTS, rows, choices)), (left_town, (TOWN, COUNTS, rows, choices)),
                            (looks, (TOWN, COUNTS, rows, choices, wrongs)), (looked_run, (TOWN, COUNTS, rows)),
                            (most_waiting, (rows,)), (least_bound, (TOWN, (0,) * 4, tables)), (tale_of, (EAST, happenings)),
+                           (played, (WORLD, [("frame", COUNTS, COUNTS), ("fall", 0), ("lamp", 1, [None])])),
                            (ride, (TOWN, (1, 2, 0, 0), 1, ((0, 2), (1, 0)), rows, choices)),
                            (tie_rows, (one, one, (((0, 0), 0),), (1, 2), [(1, 1)], [(((), (0,)),) * 2]))):
             before = copy.deepcopy(told)

@@ -1,82 +1,34 @@
 """[2.1] to [2.5]: towns, counts and fractions as texts."""
 
 import random
-import re
 import unittest
 from fractions import Fraction
 
-from greenheld.errors import BadText
 from greenheld.texts import (added_counts, counts_text, crossing_text, fraction_text, is_counts, read_counts,
                              read_crossing, read_fraction, read_town, scaled_counts, town_text)
+from tests.reading import Language, changes, place_told
 from tests.support import EAST, ODD_VALUES, TOWN, plain_int, same, towns, within
 
 NUMBER = "(?:0|[1-9][0-9]{0,8})"
 LINES = f"(?:\nmove {NUMBER} to (?:out|{NUMBER}))*(?:\ncross {NUMBER} {NUMBER} clear {NUMBER} {NUMBER})*"
 LONG = "[1-9][0-9]{0,59}"
-# For each reader the texts that can be read, and texts whose ends finish any text that can be finished.
 LANGUAGES = {
-    read_crossing: (f"crossing {NUMBER}{LINES}",
-                    ("crossing 1", "crossing 1\nmove 1 to out", "crossing 1\nmove 1 to 1", "crossing 1\ncross 1 1 clear 1 1")),
-    read_town: (f"queues {NUMBER}(?:\ncrossing {NUMBER}{LINES})*",
-                ("queues 1", "queues 1\ncrossing 1", "queues 1\ncrossing 1\nmove 1 to out", "queues 1\ncrossing 1\nmove 1 to 1",
-                 "queues 1\ncrossing 1\ncross 1 1 clear 1 1")),
-    read_counts: (f"counts {NUMBER}(?: {NUMBER})*", ("counts 1", "counts 1 1")),
-    read_fraction: (f"(?:0|-?{LONG})(?:/{LONG})?", ("-1", "1/1")),
+    read_crossing: Language(f"crossing {NUMBER}{LINES}", (
+        "crossing 1", "crossing 1\nmove 1 to out", "crossing 1\nmove 1 to 1", "crossing 1\ncross 1 1 clear 1 1")),
+    read_town: Language(f"queues {NUMBER}(?:\ncrossing {NUMBER}{LINES})*", (
+        "queues 1", "queues 1\ncrossing 1", "queues 1\ncrossing 1\nmove 1 to out", "queues 1\ncrossing 1\nmove 1 to 1",
+        "queues 1\ncrossing 1\ncross 1 1 clear 1 1")),
+    read_counts: Language(f"counts {NUMBER}(?: {NUMBER})*", ("counts 1", "counts 1 1")),
+    read_fraction: Language(f"(?:0|-?{LONG})(?:/{LONG})?", ("-1", "1/1")),
 }
 WRITERS = {read_crossing: crossing_text, read_town: town_text, read_counts: counts_text, read_fraction: fraction_text}
-
-
-PATTERNS = {read: re.compile(LANGUAGES[read][0]) for read in LANGUAGES}
-ENDS = {read: sorted({sample[k:] for sample in LANGUAGES[read][1] for k in range(len(sample) + 1)}) for read in LANGUAGES}
-
-
-def can_be_read(read, text):
-    """By a pattern, and not by the program."""
-    return PATTERNS[read].fullmatch(text) is not None
-
-
-def is_beginning(read, text):
-    return any(can_be_read(read, text + end) for end in ENDS[read])
-
-
-def plain_place(read, text):
-    """The number of signs of the longest beginning of text that is a beginning of one that can be read."""
-    low, high = 0, len(text)
-    while low < high:
-        # What begins with no beginning is none.
-        middle = (low + high + 1) // 2
-        if is_beginning(read, text[:middle]):
-            low = middle
-        else:
-            high = middle - 1
-    return low
-
-
-def place_told(read, text):
-    """The place that BadText tells, None if the text is read."""
-    try:
-        read(text)
-    except BadText as error:
-        return error.place
-    return None
-
-
-def changes(text, signs):
-    """Texts cut short, or with one sign put in, left out or exchanged."""
-    found = [text[:k] for k in range(len(text))]
-    for k in range(len(text) + 1):
-        found.extend(text[:k] + sign + text[k:] for sign in signs)
-        found.extend(text[:k] + sign + text[k + 1:] for sign in signs)
-        found.append(text[:k] + text[k + 1:])
-        found.append(text[:k] + text[k + 1:k + 2] + text[k:k + 1] + text[k + 2:])
-    return sorted(set(found))
 
 
 class Reading(unittest.TestCase):
     def read_or_refused(self, read, text):
         told = place_told(read, text)
-        if not can_be_read(read, text):
-            self.assertTrue(same(told, plain_place(read, text)), (text, told))
+        if not LANGUAGES[read].can_be_read(text):
+            self.assertTrue(same(told, LANGUAGES[read].place(text)), (text, told))
         elif read is read_fraction and fraction_text(plain_fraction(text)) != text:
             self.assertTrue(same(told, 0), (text, told))
         else:
