@@ -62,8 +62,6 @@ def searched(moves, taken, q):
     ahead = [q]
     while ahead:
         at = ahead.pop(0)
-        if at is None:
-            continue
         for place, (start, to) in moves.items():
             begin, end = (to, start) if place in taken else (start, to)
             if begin == at and end not in reached:

@@ -204,12 +204,17 @@ class Apart(unittest.TestCase):
             for q in range(town[0]):
                 if gets_out(town, q):
                     self.assertIsNone(plain_judge_apart(town, q, ways_apart(town, q)))
-        # A way that goes back over what is taken: the shortest way first would bar all others.
-        town = (6, ((((0, 1), (0, 2)), (), 5), (((1, 4), (1, 3), (2, 3)), (), 5), (((3, None), (4, None)), (), 5)))
-        lot, ways = ways_apart(town, 0)
-        self.assertEqual([len(lot), plain_judge_apart(town, 0, (lot, ways))], [2, None])
-        back = (4, ((((0, 1), (0, 2), (1, 2), (1, 3)), (), 5), (((2, None), (3, 2), (3, None)), (), 5)))
-        self.assertIsNone(plain_judge_apart(back, 0, ways_apart(back, 0)))
+
+    def test_shortest_ways_that_must_be_left_again(self):
+        # The shortest way, over queues 1 and 2, has a movement of each pair of ways that share nothing.
+        moves = ((0, 1), (1, 2), (2, None), (1, 3), (3, 4), (4, None), (0, 5), (5, 6), (6, 2), (2, 1))
+        chance = random.Random(8)
+        for many in (9, 10):
+            for _ in range(30):
+                queues = chance.sample(range(7), 7)
+                town = (7, tuple((tuple(move for move in moves[:many] if move[0] == q), (), 5) for q in queues))
+                value = ways_apart(town, 0)
+                self.assertEqual([len(value[0]), plain_judge_apart(town, 0, value)], [2, None])
 
     def test_a_lot_takes_the_way_out_exactly_if_it_has_one_of_each_way(self):
         chance = random.Random(10)

@@ -4,6 +4,7 @@ import copy
 import random
 import unittest
 from fractions import Fraction
+from math import isqrt
 
 from greenheld.errors import BadEvent
 from greenheld.flows import carried
@@ -33,6 +34,13 @@ def worlds(many, seed, most=25):
         world = new_world(town, row_by_chance(chance, town[0], chance.choice((0, 3, 20))))
         found.append((world, script_by_chance(chance, town, chance.randint(0, most), lamps=chance.choice((0, 0.1, 0.25)))))
     return found
+
+
+def is_sum(number, many):
+    """Whether a number is the sum of so many squares."""
+    if many == 1:
+        return isqrt(number) ** 2 == number
+    return any(is_sum(number - k * k, many - 1) for k in range(isqrt(number), -1, -1))
 
 
 def number_told(call, *told):
@@ -185,6 +193,17 @@ class Events(unittest.TestCase):
             told.append(settled_for(new_world(LINE, state), counts, e))
             self.assertIs(told[-1], squares_of(state) <= most)
         self.assertEqual(set(told), {True, False})
+        # Squares of just V, and one more: each integer is the sum of four squares.
+        most = steady(TOWN, (0, 0, 0, 0), (1, 100))[1]
+        for squares in (most, most + 1):
+            rest, state = squares, ()
+            while len(state) < 3:
+                state += (next(k for k in range(isqrt(rest), -1, -1) if is_sum(rest - k * k, 3 - len(state))),)
+                rest -= state[-1] ** 2
+            state += (isqrt(rest),)
+            self.assertEqual(squares_of(state), squares)
+            self.assertIs(settled_for(new_world(TOWN, state), (0, 0, 0, 0), (1, 100)), squares == most)
+        most = steady(LINE, counts, e)[1]
         root = next(k for k in range(10 ** 4) if k * k > most)
         self.assertEqual([settled_for(new_world(LINE, state), counts, e) for state in ((root, 0), (root - 1, 0))], [False, True])
 
